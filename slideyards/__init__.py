@@ -1,0 +1,1 @@
+"""Slideyards: things on any network of places."""
