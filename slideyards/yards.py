@@ -1,6 +1,6 @@
 """Layer 1: yards, the stands of things on them, and the moves that things make."""
 
-from slideyards.basics import is_integer, is_row
+from slideyards.basics import are_unlike_numbers, is_count, is_integer, is_row
 from slideyards.errors import BadMove, BadNumber, BadRing, BadRow, BadTie
 
 
@@ -19,22 +19,13 @@ class Yard:
                 and self.ties == other.ties and self.rings == other.rings)
 
 
-def are_unlike_places(places, value):
-    """Whether any value is a row of unlike places, of so many places."""
-    if not is_row(value):
-        return False
-    if not all([is_integer(place) and 0 <= place < places for place in value]):
-        return False
-    return len(set(value)) == len(value)
-
-
 def checked_ties(places, ties):
     """The ties of a yard of so many places, ascending."""
     if not is_row(ties):
         raise BadRow(ties)
     seen = set()
     for tie in ties:
-        if not are_unlike_places(places, tie) or len(tie) != 2 or tuple(tie) in seen:
+        if not are_unlike_numbers(places, tie) or len(tie) != 2 or tuple(tie) in seen:
             raise BadTie(tie)
         seen.add(tuple(tie))
     return tuple(sorted(seen))
@@ -45,7 +36,7 @@ def checked_rings(places, rings):
     if not is_row(rings):
         raise BadRow(rings)
     for index, ring in enumerate(rings):
-        if not are_unlike_places(places, ring) or len(ring) < 3:
+        if not are_unlike_numbers(places, ring) or len(ring) < 3:
             raise BadRing(index)
     return tuple([tuple(ring) for ring in rings])
 
@@ -59,7 +50,7 @@ def is_stand_row(yard, value):
     """Whether any value may be passed as a stand of the yard: a tuple or a list."""
     if not is_row(value) or len(value) != yard.places:
         return False
-    return all([is_integer(thing) and thing >= 0 for thing in value])
+    return all([is_count(thing) for thing in value])
 
 
 def is_stand(yard, value):
@@ -85,7 +76,7 @@ def is_named(stand):
 
 def is_filled_row(yard, value):
     """Whether any value may be passed as a filled row of the yard: a tuple or a list."""
-    return are_unlike_places(yard.places, value) and sorted(value) == list(value)
+    return are_unlike_numbers(yard.places, value) and sorted(value) == list(value)
 
 
 def is_move(yard, value):

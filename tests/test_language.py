@@ -17,6 +17,11 @@ METHODS = set("""append clear copy count endswith extend find get index insert i
     rsplit rstrip setdefault split splitlines startswith strip update upper values zfill bit_length
     title capitalize swapcase casefold center expandtabs removeprefix removesuffix rindex isascii isdecimal
     isnumeric istitle isidentifier isprintable add discard __init__""".split())
+LIBRARY = {"heapq": ("heappush", "heappop", "heapify", "heapreplace", "heappushpop"),
+           "math": ("gcd", "lcm", "isqrt", "comb", "perm", "factorial"),
+           "itertools": ("product", "combinations", "permutations")}
+BARRED_ATTRIBUTES = set("""items keys values pop update append clear extend insert remove reverse setdefault sort
+    args encode decode hex fromhex format add""".split())
 BARRED = (ast.Global, ast.AsyncFunctionDef, ast.Await, ast.AsyncFor, ast.AsyncWith, ast.Import, ast.TryStar)
 
 
@@ -59,6 +64,10 @@ class LanguageTest(unittest.TestCase):
 
     def test_imports(self):
         for place, node in self.nodes(ast.ImportFrom):
+            if node.module in LIBRARY:
+                for name in node.names:
+                    self.assertTrue(name.name in LIBRARY[node.module] and name.asname is None, place)
+                continue
             self.assertTrue(node.level == 0 and node.module.startswith("slideyards."), place)
             for name in node.names:
                 self.assertTrue(name.name != "*" and name.asname is None, place)
@@ -81,6 +90,34 @@ class LanguageTest(unittest.TestCase):
         for place, node in self.nodes(ast.arg, ast.FunctionDef, ast.ClassDef):
             name = node.arg if isinstance(node, ast.arg) else node.name
             self.assertNotIn(name, vars(builtins), f"{place}: {name}")
+
+    def test_attributes_that_are_assigned(self):
+        for place, node in self.nodes(ast.Attribute):
+            if isinstance(node.ctx, ast.Store):
+                self.assertNotIn(node.attr, BARRED_ATTRIBUTES, place)
+                self.assertIsInstance(node.value, ast.Name, place)
+
+    def test_names_of_imports_and_classes_are_kept(self):
+        for file in FILES:
+            tree = tree_of(file)
+            taken = [name.name for node in tree.body if isinstance(node, ast.ImportFrom) for name in node.names]
+            taken += [node.name for node in tree.body if isinstance(node, ast.ClassDef)]
+            self.assertEqual(len(set(taken)), len(taken), file.name)
+            for node in ast.walk(tree):
+                if isinstance(node, ast.arg):
+                    self.assertNotIn(node.arg, taken, f"{file.name}:{node.lineno}")
+                elif isinstance(node, ast.Name) and isinstance(node.ctx, ast.Store):
+                    self.assertNotIn(node.id, taken, f"{file.name}:{node.lineno}")
+
+    def test_no_file_imports_itself_by_others(self):
+        ahead = {file.stem: [node.module.split(".")[1] for node in tree_of(file).body
+                             if isinstance(node, ast.ImportFrom) and node.module.startswith("slideyards.")]
+                 for file in FILES}
+        while ahead:
+            free = [name for name in ahead if not [other for other in ahead[name] if other in ahead]]
+            self.assertNotEqual(free, [], ahead)
+            for name in free:
+                del ahead[name]
 
     def test_methods(self):
         own = {node.name for _, node in self.nodes(ast.FunctionDef)}

@@ -5,23 +5,11 @@ import itertools
 import random
 import unittest
 
+from samples import NO_FILLED_ROWS, NO_ROWS, Odd, random_moves, tuples_alone
 from slideyards import yards
 from slideyards.errors import BadMove, BadNumber, BadRing, BadRow, BadTie
 from slideyards.yards import (Yard, both_ways, filled, is_named, is_stand, led, moves_at, played,
                               taken_back, things_of)
-
-
-class Odd:
-    """A value that is like all others, if it is asked."""
-
-    def __eq__(self, other):
-        return True
-
-    def __hash__(self):
-        return 0
-
-
-NO_ROWS = (None, 5, True, "", "01", b"\x00", {}, {0: 1}, {0}, range(2), iter([0]), 0.5, Odd(), Yard)
 
 # A square with a diagonal one way, a tail, and two rings that have a place in common.
 SQUARE = Yard(6, both_ways([(0, 1), (1, 2), (2, 3), (3, 0), (3, 4)]) + ((0, 2), (5, 4)),
@@ -30,22 +18,6 @@ LINE = Yard(4, both_ways([(0, 1), (1, 2), (2, 3)]), ())
 RINGS = Yard(5, (), ((0, 1, 2), (2, 3, 4, 0)))
 BARE = Yard(1, (), ())
 YARDS = (SQUARE, LINE, RINGS, BARE, Yard(3, ((0, 1), (1, 2), (2, 0)), ((2, 0, 1),)))
-
-
-def tuples_alone(value):
-    return not isinstance(value, list) and (
-        not isinstance(value, tuple) or all(tuples_alone(item) for item in value))
-
-
-def random_moves(dice, yard, row, many):
-    """A row of moves that can be made at a filled row."""
-    moves = []
-    for _ in range(many):
-        found = moves_at(yard, row)
-        if found:
-            moves.append(dice.choice(found))
-            row = led(yard, row, moves[-1:])[0]
-    return tuple(moves)
 
 
 def random_stand(dice, yard):
@@ -206,9 +178,6 @@ class StandTest(unittest.TestCase):
         for stand in ((1, 0, 1), (2, 2), [3, 1, 3]):
             self.assertIs(is_named(stand), False)
 
-
-NO_FILLED_ROWS = ((1, 0), (0, 0), (0, 0, 1), (0, 4), (-1, 0), (True,), (0, True), ("0",), (0.0,),
-                  ((0,),), ([],), [2, 1], (None,), (0, Odd())) + NO_ROWS
 
 NO_MOVES = (("slide", 0, 2), ("slide", 0, 0), ("slide", 0), ("slide", 0, 1, 1), ("slide", (0, 1)),
             ("slide",), (), ("turn",), ("turn", 1), ("turn", -1), ("turn", 0, 0), ("turn", True),
