@@ -3,40 +3,21 @@
 import random
 import unittest
 
-from samples import NO_COUNTS, NO_FILLED_ROWS, Odd, check_error, check_interface, random_moves, tuples_alone
+from samples import (BARE, LIFT, LINE, NO_COUNTS, NO_FILLED_ROWS, RINGS, SQUARE, THETA, WHEEL, Odd, check_error,
+                     check_interface, other_outs, random_moves, tuples_alone)
 from slideyards import rounds as rounds_module
 from slideyards.chains import chain_of, size_of, stops_at
 from slideyards.errors import BadMove, BadNumber, BadRow
 from slideyards.lines import back, power, still, times
-from slideyards.lots import Outs, are_outs, lost_tie, outs_of, way_home
+from slideyards.lots import Outs, are_outs, lost_tie, outs_of
 from slideyards.rounds import Round, bearing, given_of, round_moves, rounds_along, rounds_of, unlike_rounds
 from slideyards.yards import Yard, both_ways, filled, led, moves_at, played
 
-LINE = Yard(4, both_ways([(0, 1), (1, 2), (2, 3)]), ())
-SQUARE = Yard(4, both_ways([(0, 1), (1, 2), (2, 3), (3, 0)]), ())
-# A loop of five with a place inside.
-THETA = Yard(6, both_ways([(0, 1), (1, 2), (2, 3), (3, 4), (4, 0), (0, 5), (5, 2)]), ())
-WHEEL = Yard(5, ((0, 1), (1, 2), (2, 3), (3, 4), (4, 0), (0, 2)), ())
-LIFT = Yard(4, ((0, 1), (1, 2), (2, 3)), ((0, 1, 2, 3),))
-RINGS = Yard(5, (), ((0, 1, 2), (2, 3, 4, 0)))
-BARE = Yard(3, (), ())
 GRID = Yard(6, both_ways([(0, 1), (1, 2), (3, 4), (4, 5), (0, 3), (1, 4), (2, 5)]), ((0, 3, 1),))
 PLACED = ((LINE, (0, 2)), (LINE, (1,)), (LINE, ()), (LINE, (0, 1, 2, 3)), (SQUARE, (0, 1, 3)), (SQUARE, (1, 2)),
           (THETA, (1, 2, 3, 4, 5)), (THETA, (0, 4, 5)), (WHEEL, (1, 2, 3, 4)), (WHEEL, (1, 3)), (LIFT, (0, 2)),
           (LIFT, (0, 2, 3)), (RINGS, (0, 1, 4)), (RINGS, (0, 1, 2, 3, 4)), (RINGS, ()), (BARE, (1, 2)), (GRID, (0, 5)),
           (GRID, (1, 2, 3, 4)))
-
-
-def other_outs(dice, yard, row):
-    """Outs with other ways: some moves that lead anywhere, home again, and then the way out."""
-    outs = outs_of(yard, row)
-    ways = []
-    for way in outs.ways:
-        ahead = random_moves(dice, yard, outs.home, dice.randrange(6))
-        ahead += way_home(yard, led(yard, outs.home, ahead)[0])
-        # The way to home itself has to lead each thing to its place again.
-        ways.append(ahead + way if way else ahead * 60)
-    return Outs(outs.home, outs.rows, ways)
 
 
 def cases():
