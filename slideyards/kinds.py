@@ -65,7 +65,7 @@ class Look:
         self.one = one
         self.other = other
         self.most = most
-        self.many = 0
+        self.looked = 0
 
 
 def are_kinds(value):
@@ -232,8 +232,8 @@ def points_or_tree(look, points, product):
         return points, None
     tree = []
     for point, step in look.steps[level].items():
-        look.many += 1
-        if look.many > look.most:
+        look.looked += 1
+        if look.looked > look.most:
             raise TooMany(look.most)
         if fits(look, product, level, point):
             found, behind = points_or_tree(look, points + (point,), followed(step, product))
